@@ -1,0 +1,1 @@
+"""Goods, recipes, and plans that use recipes one after the other."""
