@@ -181,7 +181,8 @@ class Language(unittest.TestCase):
                 self.assertEqual(len(node.generators), 1)
                 self.assertLessEqual(len(node.generators[0].ifs), 1)
             if isinstance(node, ast.Compare) and any(isinstance(op, (ast.Is, ast.IsNot)) for op in node.ops):
-                self.assertTrue(all(isinstance(side, ast.Constant) for side in node.comparators))
+                self.assertTrue(all(isinstance(side, ast.Constant) and type(side.value) in (bool, type(None))
+                                    for side in node.comparators))
 
         self.check_each(check)
 
