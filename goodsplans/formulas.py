@@ -1,4 +1,4 @@
-"""Formulas, and how a text is read as one.
+"""Formulas, how they are written, and how a text is read as one.
 
 A formula is the flat list of its nodes, each one ahead of the nodes of the two
 formulas that it is of. A tensor is "*", a par is "|", a plain atom is its name,
@@ -39,6 +39,33 @@ def end_of_formula(nodes, at):
         lacking += 1 if nodes[at] in (TENSOR, PAR) else -1
         at += 1
     return at
+
+
+# Of a, b and c: a tensor (b tensor c).
+def tensor_of(names):
+    nodes = []
+    for name in names[:-1]:
+        nodes.extend([TENSOR, name])
+    return nodes + names[-1:]
+
+
+def put_in_brackets(text, needed):
+    return "(" + text + ")" if needed else text
+
+
+# Goes from the last node to the first, so that the two formulas that a node is of are
+# written when it comes. What is written waits, with its first node, for its own node.
+def formula_form(formula):
+    written = []
+    for node in reversed(formula):
+        form = node
+        if node in (TENSOR, PAR):
+            first = written.pop()
+            second = written.pop()
+            form = put_in_brackets(first[1], first[0] in (TENSOR, PAR)) + node
+            form += put_in_brackets(second[1], second[0] == dual_node(node))
+        written.append((node, form))
+    return written[0][1]
 
 
 # A stretch is taken whole before it is looked at: a part of one is no token.

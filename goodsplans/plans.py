@@ -1,7 +1,8 @@
 """The program's one function: a flat list of calls in, a flat list of answers out."""
 
-from goodsplans.calls import answer_back, answer_begin, answer_need, answer_plan
-from goodsplans.calls import answer_recipe, answer_show, answer_stock, answer_use
+from goodsplans.calls import answer_back, answer_begin, answer_exchange, answer_follow, answer_need
+from goodsplans.calls import answer_net, answer_plan, answer_reach, answer_recipe, answer_show
+from goodsplans.calls import answer_stock, answer_told, answer_use, answer_weigh
 from goodsplans.workshop import Workshop
 
 # For each call its name, how many whole numbers it has, and how many rows behind them.
@@ -13,6 +14,12 @@ CALLS = {
     4: ("stock", 0, 0),
     5: ("plan", 0, 0),
     6: ("show", 1, 0),
+    7: ("exchange", 1, 0),
+    8: ("told", 0, 0),
+    9: ("net", 0, 0),
+    10: ("reach", 0, 1),
+    11: ("follow", 0, 1),
+    12: ("weigh", 0, 2),
     13: ("need", 1, 0),
 }
 
@@ -46,6 +53,18 @@ def answer_call(workshop, call):
         return answer_plan(workshop)
     if call.kind == "show":
         return answer_show(workshop, call.numbers[0])
+    if call.kind == "exchange":
+        return answer_exchange(workshop, call.numbers[0])
+    if call.kind == "told":
+        return answer_told(workshop)
+    if call.kind == "net":
+        return answer_net(workshop)
+    if call.kind == "reach":
+        return answer_reach(workshop, call.rows[0])
+    if call.kind == "follow":
+        return answer_follow(workshop, call.rows[0])
+    if call.kind == "weigh":
+        return answer_weigh(workshop, call.rows[0], call.rows[1])
     return answer_need(workshop, call.numbers[0])
 
 

@@ -22,6 +22,16 @@ class Workshop:
             names.extend(self.recipes[use.recipe_number].gives)
         return names
 
+    # For each use the numbers of the units that it gave.
+    def given_units(self):
+        given = []
+        first = len(self.beginning)
+        for use in self.uses:
+            behind = first + len(self.recipes[use.recipe_number].gives)
+            given.append(list(range(first, behind)))
+            first = behind
+        return given
+
     # The name of each unit that is there, under its number, by rising numbers.
     def stock(self):
         taken = {}

@@ -44,6 +44,30 @@ def show(number):
     return [6, number]
 
 
+def exchange(k):
+    return [7, k]
+
+
+def told():
+    return [8]
+
+
+def net():
+    return [9]
+
+
+def reach(names):
+    return [10] + row(codes(names))
+
+
+def follow(*course):
+    return [11] + row(course)
+
+
+def weigh(names, *weights):
+    return [12] + row(codes(names)) + row(weights)
+
+
 def need(number):
     return [13, number]
 
@@ -68,9 +92,9 @@ def parted(flat):
 
 def run(*calls):
     """The answer of each call, all of them on one new object."""
-    told = answers(joined(calls))
-    assert all(type(number) is int for number in told), "not all are whole numbers"
-    found = parted(told)
+    flat = answers(joined(calls))
+    assert all(type(number) is int for number in flat), "not all are whole numbers"
+    found = parted(flat)
     assert len(found) == len(calls), "not one answer a call"
     return found
 
@@ -84,6 +108,20 @@ def shown(text):
     return row(codes(text))
 
 
+def text_told(answer):
+    """The text that an answer is behind its count."""
+    assert answer[0] == len(answer) - 1, "the count is not that of the bytes"
+    return bytes(answer[1:]).decode("ascii")
+
+
+def used(*uses):
+    """The answer of plan for uses told as (recipe, unit, unit ..)."""
+    answer = [len(uses)]
+    for number, *units in uses:
+        answer += [number] + row(units)
+    return answer
+
+
 def in_stock(*units):
     """The answer of stock for units told as (number, name)."""
     answer = [len(units)]
@@ -94,20 +132,19 @@ def in_stock(*units):
 
 def form_of(text):
     """The form of the recipe that a text is, or the refusal's number."""
-    told = run(recipe(text), show(0))
-    if told[0] != [0]:
-        assert len(told[0]) == 1 and told[0][0] < 0, told
-        assert told[1] == [-2], "a refused recipe was added"
-        return told[0][0]
-    assert told[1][0] == len(told[1]) - 1, "the count is not that of the bytes"
-    return bytes(told[1][1:]).decode("ascii")
+    added, form = run(recipe(text), show(0))
+    if added != [0]:
+        assert len(added) == 1 and added[0] < 0, added
+        assert form == [-2], "a refused recipe was added"
+        return added[0]
+    return text_told(form)
 
 
 class Case(unittest.TestCase):
     """A test that can ask whether a refused call left everything as it was."""
 
     def check_refused(self, ahead, call, number):
-        looks = [stock(), plan()]
+        looks = [stock(), plan(), net()]
         for k in range(-1, 13):
             looks += [show(k), need(k)]
         before = run(*ahead, *looks)

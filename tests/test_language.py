@@ -31,6 +31,7 @@ EXPRESSIONS = (ast.Constant, ast.Name, ast.Attribute, ast.Subscript, ast.Slice, 
                ast.Dict, ast.BinOp, ast.UnaryOp, ast.BoolOp, ast.Compare, ast.IfExp, ast.ListComp, ast.Lambda,
                ast.JoinedStr, ast.FormattedValue)
 WALKED = ("zip", "enumerate", "reversed", "range")
+CHANGES = ("append", "clear", "extend", "insert", "pop", "remove", "reverse", "setdefault", "update")
 
 
 def files():
@@ -61,6 +62,26 @@ def is_plain(node):
     if isinstance(node, (ast.List, ast.Tuple)):
         return all(is_plain(inner) for inner in node.elts)
     return isinstance(node, ast.Constant)
+
+
+def walked_by(node):
+    """What a loop walks, itself or through enumerate, zip and their like, as it is written."""
+    if isinstance(node, ast.Call) and isinstance(node.func, ast.Name) and node.func.id in WALKED:
+        return {found for inner in node.args for found in walked_by(inner)}
+    if isinstance(node, ast.Call) and isinstance(node.func, ast.Attribute):
+        return {ast.unparse(node.func.value)}
+    return {ast.unparse(node)}
+
+
+def changed_in(node):
+    """What is changed in a loop, as it is written."""
+    found = set()
+    for inner in ast.walk(node):
+        if isinstance(inner, ast.Call) and isinstance(inner.func, ast.Attribute) and inner.func.attr in CHANGES:
+            found.add(ast.unparse(inner.func.value))
+        if isinstance(inner, ast.Subscript) and isinstance(inner.ctx, ast.Store):
+            found.add(ast.unparse(inner.value))
+    return found
 
 
 def own_methods_and_values(all_trees):
@@ -239,6 +260,13 @@ class Language(unittest.TestCase):
             if walked:
                 self.assertTrue(isinstance(outer, (ast.For, ast.comprehension)) or caller in (
                     "list", "tuple", "dict", "sorted", "sum", "any", "all", "enumerate", "zip", "min", "max"))
+
+        self.check_each(check)
+
+    def test_what_a_loop_walks_is_not_changed_in_it(self):
+        def check(tree, node):
+            if isinstance(node, ast.For):
+                self.assertEqual(walked_by(node.iter) & changed_in(node), set())
 
         self.check_each(check)
 

@@ -1,8 +1,10 @@
 """Promises 5, 6, 7 and 14: stock, plan, show and need."""
 
-from tests.helper import FAR, Case, back, begin, in_stock, need, plan, recipe, run, show, shown, stock, use
+from tests.helper import (FAR, Case, back, begin, exchange, follow, in_stock, need, net, plan, reach, recipe, run, show,
+                          shown, stock, told, use, weigh)
 
-LOOKS = [stock(), plan(), show(0), need(0), show(5), need(5)]
+LOOKS = [stock(), plan(), show(0), need(0), show(5), need(5), net(), reach("b c"), reach("c "), weigh("a b", 1, 2),
+         weigh("a", 1, 2)]
 
 
 class Stock(Case):
@@ -14,12 +16,12 @@ class Stock(Case):
                          [2, 0, 2, 122, 122, 1, 12, 97, 49, 98, 50, 99, 51, 100, 52, 101, 53, 102, 54])
 
     def test_rising_numbers_with_gaps(self):
-        told = run(begin("a b a b"), recipe("b*a -o a"), use(0, 3, 0), stock())
-        self.assertEqual(told[3], in_stock((1, "b"), (2, "a"), (4, "a")))
+        found = run(begin("a b a b"), recipe("b*a -o a"), use(0, 3, 0), stock())
+        self.assertEqual(found[3], in_stock((1, "b"), (2, "a"), (4, "a")))
 
     def test_rising_numbers_of_two_digits(self):
-        told = run(begin("a a a a a a a a a a"), recipe("a -o b*b"), use(0, 9), use(0, 0), stock())
-        self.assertEqual(told[4], in_stock(*[(k, "a") for k in range(1, 9)], *[(k, "b") for k in range(10, 14)]))
+        found = run(begin("a a a a a a a a a a"), recipe("a -o b*b"), use(0, 9), use(0, 0), stock())
+        self.assertEqual(found[4], in_stock(*[(k, "a") for k in range(1, 9)], *[(k, "b") for k in range(10, 14)]))
 
 
 class Plan(Case):
@@ -27,19 +29,19 @@ class Plan(Case):
         self.assertEqual(run(plan()), [[0]])
 
     def test_uses_in_order_with_units_in_order(self):
-        told = run(begin("a b a b"), recipe("b*a -o a*b*c"), recipe("c -o a"), use(0, 3, 0), use(1, 6), use(0, 1, 7),
-                   plan())
-        self.assertEqual(told[3:], [[4, 3], [7, 1], [8, 3], [3, 0, 2, 3, 0, 1, 1, 6, 0, 2, 1, 7]])
+        found = run(begin("a b a b"), recipe("b*a -o a*b*c"), recipe("c -o a"), use(0, 3, 0), use(1, 6), use(0, 1, 7),
+                    plan())
+        self.assertEqual(found[3:], [[4, 3], [7, 1], [8, 3], [3, 0, 2, 3, 0, 1, 1, 6, 0, 2, 1, 7]])
 
     def test_refused_uses_are_not_there(self):
-        told = run(begin("a"), recipe("a -o b"), use(0, 1), use(1, 0), use(0, 0), use(0, 0), plan())
-        self.assertEqual(told[2:], [[-3], [-2], [1, 1], [-3], [1, 0, 1, 0]])
+        found = run(begin("a"), recipe("a -o b"), use(0, 1), use(1, 0), use(0, 0), use(0, 0), plan())
+        self.assertEqual(found[2:], [[-3], [-2], [1, 1], [-3], [1, 0, 1, 0]])
 
 
 class Show(Case):
     def test_form(self):
-        told = run(recipe("(a*b )*a-o  z9"), recipe("~x|(y*(y*y))"), show(0), show(1))
-        self.assertEqual(told[2:], [shown("a*b*a -o z9"), shown("x -o y*y*y")])
+        found = run(recipe("(a*b )*a-o  z9"), recipe("~x|(y*(y*y))"), show(0), show(1))
+        self.assertEqual(found[2:], [shown("a*b*a -o z9"), shown("x -o y*y*y")])
 
     def test_longest_form(self):
         names = ["abcdefghijk%s" % sign for sign in "abcdef"]
@@ -70,16 +72,21 @@ class Need(Case):
         }
         for names, expected in cases.items():
             with self.subTest(names=names):
-                told = run(begin(names), *recipes, *[need(k) for k in range(5)])
-                self.assertEqual(told[6:], [[lacking] for lacking in expected])
+                found = run(begin(names), *recipes, *[need(k) for k in range(5)])
+                self.assertEqual(found[6:], [[lacking] for lacking in expected])
 
     def test_new_object(self):
         self.assertEqual(run(recipe("a*a*b*b*c*c -o d"), need(0)), [[0], [6]])
 
     def test_the_stock_as_it_is_then(self):
-        told = run(begin("a a"), recipe("a -o b"), recipe("a*a*b -o c"), need(1), use(0, 0), need(1), use(0, 1),
-                   need(1), back(), need(1), begin("b a a"), need(1), use(1, 1, 2, 0), need(1))
-        self.assertEqual(told[3:], [[1], [2, 1], [1], [3, 1], [2], [1], [1], [3], [0], [3, 1], [3]])
+        found = run(begin("a a"), recipe("a -o b"), recipe("a*a*b -o c"), need(1), use(0, 0), need(1), use(0, 1),
+                    need(1), back(), need(1), begin("b a a"), need(1), use(1, 1, 2, 0), need(1))
+        self.assertEqual(found[3:], [[1], [2, 1], [1], [3, 1], [2], [1], [1], [3], [0], [3, 1], [3]])
+
+    def test_a_stock_that_has_enough_or_some_or_none(self):
+        calls = [begin("a a b"), recipe("a*b -o c"), recipe("a -o b"), recipe("c*b*c*a -o d")]
+        found = run(*calls, need(0), need(2), follow(0), need(0), need(2), follow(1), exchange(0), need(0), need(2))
+        self.assertEqual(found[4:], [[0], [2], [1], [1], [2], [2], [2], [1], [2]])
 
     def test_numbers_of_no_recipe(self):
         ahead = [begin("a"), recipe("a -o b"), recipe("b -o a")]
@@ -91,12 +98,14 @@ class Need(Case):
 
 class Looking(Case):
     def test_looking_changes_nothing(self):
-        calls = [begin("a a b"), recipe("a*b -o c"), recipe("a -o b"), use(1, 0), back(), use(0, 0, 2), use(1, 1)]
+        calls = [begin("a a b"), recipe("a*b -o c"), recipe("a -o b"), use(1, 0), back(), use(0, 0, 2), use(1, 1),
+                 exchange(0), told(), back(), follow(1)]
         plain = run(*calls, *LOOKS)
         looked = []
         for call in calls:
             looked += LOOKS + [call]
-        told = run(*looked, *LOOKS, *LOOKS)
-        self.assertEqual(told[-6:], plain[-6:])
-        self.assertEqual(told[-12:-6], plain[-6:])
-        self.assertEqual(told[6::7][:7], plain[:7])
+        found = run(*looked, *LOOKS, *LOOKS)
+        count = len(LOOKS)
+        self.assertEqual(found[-count:], plain[-count:])
+        self.assertEqual(found[-2 * count:-count], plain[-count:])
+        self.assertEqual(found[count::count + 1][:len(calls)], plain[:len(calls)])
